@@ -1,0 +1,1 @@
+"""Histories of texts: versions and branches."""
