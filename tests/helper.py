@@ -44,6 +44,35 @@ def common(u, v):
     return written(7, [u, v])
 
 
+def way(u, v):
+    return written(8, [u, v])
+
+
+def merge(number, version):
+    return written(9, [number, version])
+
+
+def pick(number, version):
+    return written(10, [number, version])
+
+
+def undo(number, version):
+    return written(11, [number, version])
+
+
+def attempt(o, a, b):
+    """The call try."""
+    return written(12, [len(o), len(a)], [*o, *a, *b])
+
+
+def origins(version):
+    return written(13, [version])
+
+
+def count():
+    return written(14, [])
+
+
 def joined(calls):
     return [number for call in calls for number in call]
 
@@ -70,18 +99,33 @@ def ask_last(*calls):
 
 
 def listed(*numbers):
-    """How parents, log and common answer these numbers."""
+    """How parents, log, common and origins answer these numbers."""
     return [len(numbers), len(numbers), *numbers]
 
 
+def text(word):
+    """A document of one line of one byte for each letter."""
+    return [[ord(letter)] for letter in word]
+
+
 def lines(document):
-    """How doc answers this document."""
+    """How doc and try answer this document."""
     return [len(document)] + [number for line in document for number in [len(line), *line]]
+
+
+def clashes(*parts):
+    """How clashes are answered, each given as its six numbers."""
+    return [-3, 6 * len(parts), *[number for part in parts for number in part]]
+
+
+def steps(kept, word, added=()):
+    """How way answers, its steps written as k, d and a."""
+    return [kept, len(word), *["kda".index(letter) for letter in word], *lines(added)[1:]]
 
 
 def everything(versions):
     """Calls that show all of a state with so many versions, and that there is not one more."""
-    shown = [head(number) for number in range(8)]
+    shown = [head(number) for number in range(8)] + [count()]
     for version in range(versions + 1):
-        shown += [doc(version), parents(version), log(version)]
+        shown += [doc(version), parents(version), log(version), origins(version)]
     return shown

@@ -3,7 +3,7 @@
 import random
 import unittest
 
-from tests.helper import ask, ask_last, branch, commit, common, drop, listed, log
+from tests.helper import ask, ask_last, branch, commit, common, drop, listed, log, merge, pick, undo
 from textbranches.forebears import forebears_of, nearest_in_common
 
 # 0 - 1 - 2 on branch 0; 3 and 5 from 1 on branch 1; 4 alone on branch 2; 6 from 0 on branch 3
@@ -83,8 +83,37 @@ class Common(unittest.TestCase):
         self.assertEqual(ask_last(*calls, common(0, 127)), listed(0))
 
 
+class Merged(unittest.TestCase):
+    """Versions that merge, pick and undo made."""
+
+    # 1 on branch 0 and 2 on branch 1 come from 0; 3 and 4 are each merged of both; 5 and 6 come from these.
+    CROSSED = [commit(0), branch(1, 0), commit(0), commit(1), branch(2, 1), merge(0, 2), merge(1, 1), commit(0),
+               commit(1)]
+
+    def test_forebears_through_both_parents(self):
+        found = ask(*self.CROSSED, *[log(version) for version in range(7)])[9:]
+        self.assertEqual(found, [listed(0), listed(1, 0), listed(2, 0), listed(3, 2, 1, 0), listed(4, 2, 1, 0),
+                                 listed(5, 3, 2, 1, 0), listed(6, 4, 2, 1, 0)])
+
+    def test_several_nearest_the_highest_first(self):
+        found = ask(*self.CROSSED, common(3, 4), common(4, 3), common(5, 6), common(6, 3))[9:]
+        self.assertEqual(found, [listed(2, 1)] * 4)
+
+    def test_merged_of_those_with_several(self):
+        found = ask(*self.CROSSED, merge(0, 6), log(7), common(7, 6), common(7, 2))[9:]
+        self.assertEqual(found, [[7], listed(7, 6, 5, 4, 3, 2, 1, 0), listed(6), listed(2)])
+
+    def test_none_in_common_until_merged(self):
+        found = ask(commit(0), commit(1), common(0, 1), merge(0, 1), log(2), common(2, 1), common(0, 1))
+        self.assertEqual(found[2:], [[0, 0], [2], listed(2, 1, 0), listed(1), [0, 0]])
+
+    def test_what_was_picked_or_undone_is_no_parent(self):
+        found = ask(*self.CROSSED, pick(2, 6), log(7), undo(2, 6), log(8), common(8, 6))[9:]
+        self.assertEqual(found, [[7], listed(7, 1, 0), [8], listed(8, 7, 1, 0), listed(1)])
+
+
 class TwoParents(unittest.TestCase):
-    """Versions with two parents, given as a list of parents, as no call here makes them yet."""
+    """Versions with two parents, given as a list of parents."""
 
     CROSSED = [[], [0], [0], [1, 2], [2, 1], [3], [4]]
 

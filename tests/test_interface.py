@@ -1,10 +1,10 @@
 """answers(calls): what is handed in, what is given back, and that nothing is kept."""
 
 import inspect
-import random
 import unittest
 
-from tests.helper import LAST, ask, branch, commit, common, doc, drop, head, joined, lines, listed, log, parents
+from tests.helper import (LAST, ask, attempt, branch, clashes, commit, common, count, doc, drop, head, joined, lines,
+                          listed, log, merge, origins, parents, pick, steps, text, undo, way)
 from textbranches.histories import answers
 
 
@@ -20,10 +20,14 @@ for name in ("append", "clear", "extend", "insert", "pop", "remove", "reverse", 
              "__setitem__", "__delitem__", "__iadd__", "__imul__"):
     setattr(Untouched, name, refuse_change)
 
-MIXED = joined([
+CALLS = [
     commit(0, [[1, 2], []]), commit(0), branch(1, 0), commit(1, [[0], [255]]), common(1, 2), log(2), doc(2),
     commit(0, [[0] * 65]), head(5), drop(1), head(1), parents(2), doc(LAST), branch(LAST, 0),
-])
+    branch(1, 0), commit(1, [[1, 2], [], [3]]), branch(2, 0), commit(2, [[4], [1, 2], []]), merge(1, 4), merge(1, 4),
+    way(3, 4), way(4, 3), origins(5), undo(1, 5), pick(1, 3), pick(2, 2), merge(2, 1), merge(0, LAST), doc(6), log(7),
+    attempt([[1], [2]], [[3], [1], [2]], [[1]]), attempt([[1]], [[2]], [[3]]), attempt([[1]] * 65, [], []), count(),
+]
+MIXED = joined(CALLS)
 
 
 class HandedIn(unittest.TestCase):
@@ -36,6 +40,10 @@ class HandedIn(unittest.TestCase):
         answers(calls)
         self.assertEqual(calls, MIXED)
 
+    def test_each_call_is_asked(self):
+        self.assertEqual({call[0] for call in CALLS}, set(range(15)))
+        self.assertEqual({told[0] for told in ask(*CALLS) if told[0] < 0}, {-1, -3, -4})
+
     def test_is_not_changed_for_a_while_either(self):
         self.assertEqual(answers(Untouched(MIXED)), answers(list(MIXED)))
 
@@ -43,6 +51,10 @@ class HandedIn(unittest.TestCase):
         self.assertEqual(answers(commit(0)), [1, 0])
         self.assertEqual(answers(doc(0)), [1, -4])
         self.assertEqual(answers(head(8)), [1, -1])
+        self.assertEqual(answers(way(0, 0)), [1, -4])
+        self.assertEqual(answers(merge(0, 0)), [1, -4])
+        self.assertEqual(answers(attempt([], [], [])), [1, 0])
+        self.assertEqual(answers(count()), [10, 0, 8] + [0] * 8)
 
     def test_behind_a_document_that_is_refused(self):
         self.assertEqual(ask(commit(0, [[4] * 100] * 100), commit(0, [[5]]), doc(0)), [[-1], [0], lines([[5]])])
@@ -69,6 +81,7 @@ class NothingKept(unittest.TestCase):
         answers(MIXED)
         self.assertEqual(ask(*[head(number) for number in range(8)], doc(0), commit(0), parents(0)),
                          [[-4]] * 9 + [[0], [0, 0]])
+        self.assertEqual(answers(count()), [10, 0, 8] + [0] * 8)
 
     def test_after_a_full_one(self):
         answers(joined([commit(0)] * 129))
@@ -114,92 +127,70 @@ class Longest(unittest.TestCase):
         self.assertEqual(ask(*calls), [[-1], [-1], [0], lines([[]] * 26)])
 
 
-class Plain:
-    """The same calls, done on frozen values straight from the document's words."""
+class LongestOfAll(unittest.TestCase):
+    """128 versions of 64 lines, asked over and over; every two lines differ in their last byte alone."""
 
-    def __init__(self):
-        self.versions = ()
-        self.heads = {}
+    FIRST = [[1] * 63 + [number] for number in range(64)]
+    OTHER = [[1] * 63 + [100 + number] for number in range(64)]
+    NEAR = FIRST[:32] + [[1] * 63 + [200]] + FIRST[33:]
 
-    def forebears(self, version):
-        found = {version}
-        for parent in self.versions[version][1]:
-            found |= self.forebears(parent)
-        return found
+    # 0 and all that are picked on branch 0 have FIRST, 1 on branch 1 has OTHER, 2 on branch 2 has NEAR.
+    MADE = [commit(0, FIRST), commit(1, OTHER), branch(2, 0), commit(2, NEAR)] + [pick(0, 0)] * 125
 
-    def commit(self, number, document):
-        if number > 7 or len(document) > 64 or any(len(line) > 64 for line in document):
-            return [-1]
-        if len(self.versions) == 128:
-            return [-6]
-        before = (self.heads[number],) if number in self.heads else ()
-        self.heads[number] = len(self.versions)
-        self.versions += ((tuple(map(tuple, document)), before),)
-        return [self.heads[number]]
+    def test_made(self):
+        self.assertEqual(ask(*self.MADE, count(), doc(127), parents(127), origins(127))[3:], [
+            *[[number] for number in range(2, 128)], [128, 8, 128, 2, 3, 0, 0, 0, 0, 0], lines(self.FIRST),
+            listed(126), listed(*[0] * 64)])
 
-    def branch(self, number, version):
-        if number > 7 or version >= len(self.versions):
-            return [-1] if number > 7 else [-4]
-        self.heads[number] = version
-        return [0]
+    def same(self, asked, expected):
+        turns = (400 - len(self.MADE)) // len(asked)
+        calls = self.MADE + asked * turns
+        calls += [count()] * (400 - len(calls))
+        self.assertLessEqual(len(joined(calls)), 16000)
+        told = ask(*calls)[len(self.MADE):][:len(asked) * turns]
+        # Not assertEqual: telling where lists this long differ would take it minutes.
+        self.assertTrue(told == expected * turns)
 
-    def drop(self, number):
-        if number not in self.heads:
-            return [-1] if number > 7 else [-4]
-        del self.heads[number]
-        return [0]
+    def test_way(self):
+        self.same([way(0, 1), way(127, 2), way(0, 127)], [
+            steps(0, "d" * 64 + "a" * 64, self.OTHER),
+            steps(63, "k" * 32 + "da" + "k" * 31, [self.NEAR[32]]),
+            steps(64, "k" * 64)])
 
-    def head(self, number):
-        return [self.heads.get(number, -1 if number > 7 else -4)]
+    def test_merge(self):
+        self.same([merge(1, 127), merge(0, 1), merge(0, 0), merge(2, 127), merge(0, 2), pick(0, 2), undo(0, 2)], [
+            clashes((0, 0, 0, 64, 0, 64)), clashes((0, 0, 0, 64, 0, 64)), [127], [-6], [-6], [-6], [-6]])
 
-    def doc(self, version):
-        return lines(self.versions[version][0]) if version < len(self.versions) else [-4]
+    def test_origins(self):
+        self.same([origins(127), origins(64), origins(2)], [
+            listed(*[0] * 64), listed(*[0] * 64), listed(*[0] * 32, 2, *[0] * 31)])
 
-    def parents(self, version):
-        return listed(*self.versions[version][1]) if version < len(self.versions) else [-4]
+    def test_all_in_turn(self):
+        self.same([way(1, 0), merge(1, 0), origins(126), log(127), common(127, 2), head(0)], [
+            steps(0, "d" * 64 + "a" * 64, self.FIRST), clashes((0, 0, 0, 64, 0, 64)), listed(*[0] * 64),
+            listed(*range(127, 2, -1), 0), listed(0), [127]])
 
-    def log(self, version):
-        return listed(*sorted(self.forebears(version))[::-1]) if version < len(self.versions) else [-4]
+    def test_versions_that_merge_in_turn(self):
+        calls = [commit(0, text("ab")), branch(1, 0)]
+        for first in range(1, 127, 3):
+            calls += [commit(0, [[first]]), commit(1, [[first]]), merge(0, first + 1), branch(1, first - 1)]
+        found = ask(*calls, *[origins(number) for number in range(127)], *[log(126)] * 103)
+        self.assertEqual(len(found), 400)
+        self.assertEqual(found[170], listed(0, 0))
+        for first in range(1, 127, 3):
+            self.assertEqual(found[170 + first:173 + first], [listed(first), listed(first + 1), listed(first)])
+        self.assertEqual(found[297:], [listed(*range(126, -1, -1))] * 103)
 
-    def common(self, u, v):
-        if max(u, v) >= len(self.versions):
-            return [-4]
-        shared = self.forebears(u) & self.forebears(v)
-        nearest = [one for one in shared if not any(one in self.forebears(two) for two in shared - {one})]
-        return listed(*sorted(nearest)[::-1])
+    def test_400_tries(self):
+        o = text("abcdef")
+        found = ask(*[attempt(o, text("xabcdef"), text("abcdefy"))] * 200, *[attempt(o, text("x"), text("y"))] * 200)
+        self.assertEqual(found, [lines(text("xabcdefy"))] * 200 + [clashes((0, 6, 0, 1, 0, 1))] * 200)
 
-
-class ByChance(unittest.TestCase):
-    """Many calls in any order, against Plain; the same ones each time."""
-
-    WRITERS = {"commit": commit, "branch": branch, "drop": drop, "head": head,
-               "doc": doc, "parents": parents, "log": log, "common": common}
-
-    def arguments(self, chance, name, versions):
-        number = chance.choice([0, 0, 1, 1, 2, 3, 4, 5, 6, 7, 8, LAST])
-        some = [chance.choice([chance.randrange(versions + 1), versions - 1 if versions else 0]) for turn in range(2)]
-        if name == "commit":
-            size = chance.choice([0, 1, 2, 3, 3, 65])
-            return number, [[chance.randrange(256)] * chance.choice([0, 1, 2, 3]) for line in range(size)]
-        if name == "branch":
-            return number, some[0]
-        if name in ("drop", "head"):
-            return (number,)
-        return tuple(some) if name == "common" else (some[0],)
-
-    def test_against_plain(self):
-        names = ["commit"] * 5 + ["branch"] * 3 + sorted(self.WRITERS)
-        for seed in range(60):
-            chance = random.Random(seed)
-            plain = Plain()
-            calls = []
-            expected = []
-            for turn in range(400):
-                name = chance.choice(names)
-                arguments = self.arguments(chance, name, len(plain.versions))
-                calls.append(self.WRITERS[name](*arguments))
-                expected.append(getattr(plain, name)(*arguments))
-            self.assertEqual(ask(*calls), expected)
+    def test_16000_numbers_of_try(self):
+        large = [[3] * 64] * 64
+        calls = [attempt(large, large, large), attempt([], large[:54], [])]
+        self.assertEqual(len(joined(calls)), 16000)
+        self.assertEqual(ask(*calls), [lines(large), lines(large[:54])])
 
 
 if __name__ == "__main__":

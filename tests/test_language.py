@@ -124,6 +124,23 @@ class Names(unittest.TestCase):
             for one in node.names:
                 self.assertIn(one.name, defined[node.module], name)
 
+    def test_no_local_is_called_like_an_import_or_a_class(self):
+        for name, tree in trees():
+            taken = [one.name for node in tree.body if isinstance(node, ast.ImportFrom) for one in node.names]
+            taken += [node.name for node in tree.body if isinstance(node, ast.ClassDef)]
+            kept = [node for node in ast.walk(tree) if isinstance(node, ast.Name) and isinstance(node.ctx, ast.Store)]
+            bound = {node.id for node in kept} | {node.arg for node in ast.walk(tree) if isinstance(node, ast.arg)}
+            self.assertEqual(bound & set(taken), set(), name)
+
+    def test_no_two_files_draw_from_one_another(self):
+        drawn = {name[:-3]: {node.module.split(".")[1] for node in tree.body if isinstance(node, ast.ImportFrom)}
+                 for name, tree in trees()}
+        while drawn:
+            free = [name for name, others in drawn.items() if not others & set(drawn)]
+            self.assertTrue(free, drawn)
+            for name in free:
+                del drawn[name]
+
     def test_the_interface_is_written_once(self):
         found = [name for name, node in nodes((ast.FunctionDef, ast.ClassDef)) if node.name == "answers"]
         self.assertEqual(found, ["histories.py"])

@@ -1,8 +1,9 @@
-"""commit, branch, drop, head, doc and parents, where they are not refused."""
+"""commit, branch, drop, head, doc, parents and count, where they are not refused; H6."""
 
 import unittest
 
-from tests.helper import ask, ask_last, branch, commit, doc, drop, everything, head, lines, listed, log, parents
+from tests.helper import (ask, ask_last, attempt, branch, commit, common, count, doc, drop, everything, head, lines,
+                          listed, log, merge, origins, parents, pick, text, undo, way)
 from textbranches.histories import answers
 
 A = [[97]]
@@ -151,32 +152,87 @@ class Documents(unittest.TestCase):
         self.same_is_told([[line + place for place in range(64)] for line in range(64)])
 
 
+class Count(unittest.TestCase):
+    def test_before_the_first_version(self):
+        self.assertEqual(answers([14, 0, 0]), [10, 0, 8, 0, 0, 0, 0, 0, 0, 0, 0])
+
+    def test_branches_at_none(self):
+        found = ask(commit(2, A), count(), commit(7, A), count(), commit(2, B), count())
+        self.assertEqual(found[1::2], [
+            [1, 8, 0, 0, 1, 0, 0, 0, 0, 0],
+            [2, 8, 0, 0, 1, 0, 0, 0, 0, 2],
+            [3, 8, 0, 0, 3, 0, 0, 0, 0, 2],
+        ])
+
+    def test_every_branch(self):
+        found = ask_last(*[commit(number) for number in range(8)], count())
+        self.assertEqual(found, [8, 8, 1, 2, 3, 4, 5, 6, 7, 8])
+
+    def test_after_branch(self):
+        self.assertEqual(ask_last(commit(0), commit(0), branch(5, 0), count()), [2, 8, 2, 0, 0, 0, 0, 1, 0, 0])
+
+    def test_after_drop(self):
+        found = ask(commit(0), branch(1, 0), drop(0), count(), drop(1), count())
+        self.assertEqual(found[3::2], [[1, 8, 0, 1, 0, 0, 0, 0, 0, 0], [1, 8] + [0] * 8])
+
+    def test_after_a_refusal(self):
+        for call in (commit(8), commit(0, [[]] * 65), branch(3, 1), branch(8, 0), drop(3), merge(0, 9), merge(3, 0),
+                     pick(0, 9), undo(3, 0), attempt([[]] * 65, [], []), attempt([], A, C), doc(4), way(0, 4)):
+            found = ask(commit(0), branch(1, 0), call, count())
+            self.assertLess(found[2][0], 0)
+            self.assertEqual(found[3], [1, 8, 1, 1, 0, 0, 0, 0, 0, 0])
+
+    def test_128_versions(self):
+        found = ask(*[commit(6)] * 128, count(), commit(0), count())
+        self.assertEqual(found[128:], [[128, 8, 0, 0, 0, 0, 0, 0, 128, 0], [-6], [128, 8, 0, 0, 0, 0, 0, 0, 128, 0]])
+
+
 class StayAsMade(unittest.TestCase):
     """H6."""
 
+    MADE = [commit(0, text("abc")), branch(1, 0), commit(0, text("xabc")), commit(1, text("abcy")), merge(0, 2)]
+    # Each makes, moves, asks or is refused.
+    LATER = [
+        commit(0, [[1]]), branch(1, 1), commit(1, []), drop(0), commit(0, B), branch(0, 2), drop(1),
+        merge(0, 3), branch(1, 1), merge(1, 2), pick(1, 2), undo(1, 3), undo(0, 0), pick(0, 3), merge(0, 4),
+        merge(0, 99), merge(5, 0), commit(8), commit(0, [[]] * 65), merge(7, 0), pick(0, 99), undo(9, 0),
+        attempt(text("abc"), text("xabc"), text("abcy")), attempt(text("a"), text("b"), text("c")),
+        way(0, 3), way(3, 0), common(2, 1), count(), head(0), head(6), origins(3), log(3), parents(3), doc(3),
+        drop(0), commit(0, text("abc")), merge(0, 3), branch(0, 0), merge(0, 3), pick(0, 3), undo(0, 3),
+    ]
+
     def test_whatever_is_called_later(self):
-        made = [commit(0, A), commit(0, B), branch(1, 0), commit(1, C)]
-        shown = [call for version in range(3) for call in (doc(version), parents(version), log(version))]
-        later = [commit(0, [[1]]), branch(1, 1), commit(1, []), drop(0), commit(0, B), branch(0, 2), drop(1)]
-        calls = made + shown
-        for call in later:
-            calls += [call] + shown
-        found = ask(*calls)
-        first = found[4:13]
-        self.assertEqual(first, [
-            lines(A), listed(), listed(0),
-            lines(B), listed(0), listed(1, 0),
-            lines(C), listed(0), listed(2, 0),
-        ])
-        for turn in range(len(later)):
-            start = 13 + turn * 10
-            self.assertEqual(found[start + 1:start + 10], first)
+        shown = [call for version in range(4) for call in (doc(version), parents(version), log(version),
+                                                           origins(version))]
+        expected = [
+            lines(text("abc")), listed(), listed(0), listed(0, 0, 0),
+            lines(text("xabc")), listed(0), listed(1, 0), listed(1, 0, 0, 0),
+            lines(text("abcy")), listed(0), listed(2, 0), listed(0, 0, 0, 2),
+            lines(text("xabcy")), listed(1, 2), listed(3, 2, 1, 0), listed(1, 0, 0, 0, 2),
+        ]
+        self.assertEqual(ask(*self.MADE, *shown)[5:], expected)
+        for size in range(1, len(self.LATER) + 1):
+            found = ask(*self.MADE, *shown, *self.LATER[:size], *shown)
+            self.assertEqual(found[5:21], expected)
+            self.assertEqual(found[-16:], expected)
+
+    def test_later_versions_too(self):
+        made = list(self.MADE)
+        before = []
+        for call in self.LATER:
+            made.append(call)
+            versions = ask(*made, count())[-1][0]
+            found = ask(*made, *everything(versions))[len(made) + 9:-4]
+            self.assertEqual(found[:len(before)], before)
+            before = found
 
     def test_asking_changes_nothing(self):
-        made = [commit(0, A), commit(0, B), branch(1, 0), commit(1, C)]
-        once = ask(*made, *everything(3))
-        twice = ask(*made, *everything(3), *everything(3))
-        self.assertEqual(twice, once + once[4:])
+        made = self.MADE + self.LATER
+        versions = ask(*made, count())[-1][0]
+        asked = everything(versions) + [way(0, 3), way(3, 1), common(1, 2), attempt(text("ab"), text("a"), text("b"))]
+        once = ask(*made, *asked)
+        twice = ask(*made, *asked, *asked)
+        self.assertEqual(twice, once + once[len(made):])
 
 
 if __name__ == "__main__":

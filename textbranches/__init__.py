@@ -1,1 +1,1 @@
-"""Histories of texts: versions and branches."""
+"""Histories of texts: versions and branches, merged three ways."""

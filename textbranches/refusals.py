@@ -1,4 +1,4 @@
-"""The answers that refuse a call: a number below 0 alone."""
+"""The answers that refuse a call: a number below 0 alone, but clashes have a list with it."""
 
 
 def unfit():
@@ -11,6 +11,11 @@ def missing():
     return [-4]
 
 
+def clashing(clashes):
+    """Clashes, told as one list of six numbers for each."""
+    return [-3, len(clashes)] + clashes
+
+
 def full():
-    """There are as many versions as there may be, and one more would be made."""
+    """There are as many versions as there may be and one more would be made, or a merged document doesn't fit."""
     return [-6]

@@ -1,5 +1,7 @@
 """What one object keeps: its versions, and where its branches are."""
 
+from textbranches.origins import origins_of
+
 MOST_VERSIONS = 128
 BRANCHES = 8
 
@@ -9,11 +11,16 @@ def is_branch(branch):
 
 
 class State:
-    """Version n has documents[n] and parents[n]; heads[b] is where branch b is, or None."""
+    """Version n has documents[n], parents[n] and origins[n]; heads[b] is where branch b is, or None.
+
+    origins[n] tells of each line where it came in. It's found once, when the
+    version is made: it hangs on lower versions alone, and these stay as they are.
+    """
 
     def __init__(self):
         self.documents = []
         self.parents = []
+        self.origins = []
         self.heads = [None] * BRANCHES
 
     def has_version(self, version):
@@ -25,10 +32,15 @@ class State:
     def is_at_none(self, branch):
         return self.heads[branch] is None
 
+    def first_document(self, versions):
+        """The document of the first of these versions; of none, the one without lines."""
+        return self.documents[versions[0]] if versions else []
+
     def add_version(self, branch, document, parents):
         """Makes a version, with the branch at it then, and gives its number."""
         version = len(self.documents)
         self.documents.append(document)
         self.parents.append(parents)
+        self.origins.append(origins_of(version, self.documents, self.parents, self.origins))
         self.heads[branch] = version
         return version
